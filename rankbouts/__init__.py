@@ -1,0 +1,1 @@
+"""A day's bouts: who meets whom in a tournament of up to eight wrestlers."""
