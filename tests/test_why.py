@@ -64,6 +64,14 @@ class AnotherSet(LineTest):
             pairs = [(low, high), (low, left[0]), (low, left[1]), (high, left[2]), (high, left[3])]
             self.answers_last(only_these_may_meet(6, pairs) + [why()], 2, number, 3)
 
+    def test_a_lower_number_of_more_wrestlers(self):
+        # 3 alone, which is 8, leaves 5, 7 and a group of five: as short by one wrestler as 1 and 2 by two.
+        pairs = [(0, 1), (0, 2), (1, 4), (1, 6), (2, 3), (2, 4), (2, 6), (3, 5), (3, 7)]
+        self.answers_last(only_these_may_meet(8, pairs) + [why()], 2, 6, 4)
+        # 7 alone is 128, and 1 and 4 together are 18.
+        pairs = [(0, 1), (1, 2), (1, 7), (2, 4), (3, 7), (4, 5), (4, 7), (6, 7)]
+        self.answers_last(only_these_may_meet(8, pairs) + [why()], 2, 18, 4)
+
     def test_a_group_of_three_is_left(self):
         pairs = [(0, 1), (0, 2), (0, 3), (3, 4), (4, 5), (5, 3)]
         self.answers_last(only_these_may_meet(6, pairs) + [why()], 2, 1, 3)
